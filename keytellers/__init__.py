@@ -1,0 +1,1 @@
+"""Tables that keep no keys, and yet tell each key's value."""
