@@ -14,8 +14,8 @@ LIBRARY = {
                   "zip_longest"},
     "collections": {"defaultdict", "deque"},
 }
-BUILTINS = set("""len range enumerate zip min max sum abs sorted reversed int str bool bytes list tuple dict set frozenset
-isinstance ord repr any all divmod pow map iter next type Exception ValueError TypeError KeyError IndexError
+BUILTINS = set("""len range enumerate zip min max sum abs sorted reversed int str bool bytes list tuple dict set
+frozenset isinstance ord repr any all divmod pow map iter next type Exception ValueError TypeError KeyError IndexError
 LookupError ZeroDivisionError ArithmeticError OverflowError RuntimeError NotImplementedError AttributeError
 StopIteration NotImplemented super property staticmethod classmethod getattr hasattr setattr
 """.split())
