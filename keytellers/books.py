@@ -1,7 +1,7 @@
 """Books: how many cells there are, and for each key the cells of its row."""
 
 from keytellers.errors import InvalidBook, InvalidCell, InvalidKey, InvalidLot, InvalidRow
-from keytellers.forms import are_integers, is_ascending, is_integer
+from keytellers.forms import are_integers, is_ascending, is_below, is_integer
 
 
 def is_book(told):
@@ -74,13 +74,13 @@ def check_book(book):
 
 def check_key(book, key):
     """Raises InvalidKey if it is no key of the book."""
-    if not is_integer(key, 0) or key >= len(book[1]):
+    if not is_below(key, len(book[1])):
         raise InvalidKey(key)
 
 
 def check_cell(book, cell):
     """Raises InvalidCell if it is no cell of the book."""
-    if not is_integer(cell, 0) or cell >= book[0]:
+    if not is_below(cell, book[0]):
         raise InvalidCell(cell)
 
 

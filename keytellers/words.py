@@ -1,7 +1,7 @@
 """Words, integers from 0 on that are added bit by bit."""
 
-from keytellers.errors import InvalidNumber, InvalidWord
-from keytellers.forms import are_integers, is_integer
+from keytellers.errors import InvalidWord
+from keytellers.forms import are_integers, check_number, is_integer
 
 
 def added(a, b):
@@ -35,8 +35,7 @@ def width(a):
 
 def is_word(w, told):
     """Whether it is a word of w bits."""
-    if not is_integer(w, 1):
-        raise InvalidNumber(w)
+    check_number(w, 1)
     return is_integer(told, 0) and told.bit_length() <= w
 
 

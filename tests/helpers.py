@@ -15,6 +15,16 @@ def exact(told):
     return (type(told).__name__, told)
 
 
+def wrong_tuples(n):
+    """No tuples of n integers from 0 on, n being 2 at the least."""
+    good = tuple(range(n))
+    wrong = [None, True, 0, "", "0" * n, b"0" * n, {}, set(good), range(n), list(good), [0] * n]
+    wrong += [good[1:], good + (0,), (), good + good, (good,), [good]]
+    for one in NO_INTEGERS + (-1, -(1 << 60)):
+        wrong += [(one,) + good[1:], good[:-1] + (one,)]
+    return wrong
+
+
 class Case(unittest.TestCase):
     def same(self, told, wanted):
         self.assertEqual(exact(told), exact(wanted))
@@ -57,6 +67,17 @@ class Case(unittest.TestCase):
         for one in wrong:
             with self.subTest(function=function.__name__, name=name, wrong=one):
                 self.fails(error, one, function, **{**arguments, name: one})
+
+
+def summed(words):
+    """The sum of words, each bit counted, as promise [3] says it."""
+    widest = max([word.bit_length() for word in words], default=0)
+    return sum(1 << place for place in range(widest) if sum(word >> place & 1 for word in words) % 2 == 1)
+
+
+def told_by(book, table):
+    """What a table tells of all keys, as promise [5] says it."""
+    return tuple(summed([table[cell] for cell in row]) for row in book[1])
 
 
 def books_up_to(m, n):

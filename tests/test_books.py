@@ -177,6 +177,7 @@ class LotsOfBooks(Case):
         self.answers((), cells_of, book=(1, ()), lot=())
         self.answers((0, 1, 2), cells_of, book=RING, lot=(0, 1, 2))
         self.answers(every, cells_of, book=WIDEST, lot=every)
+        self.answers((1, 9, 33), cells_of, book=(40, ((33,), (9,), (1,))), lot=(0, 1, 2))
         self.answers((3, ()), part, book=RING, lot=())
         self.answers((1, ()), part, book=(1, ()), lot=())
         self.answers(RING, part, book=RING, lot=(0, 1, 2))

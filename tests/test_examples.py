@@ -16,6 +16,20 @@ EXAMPLES = """
 >>> [is_closed(ring, (0, 1, 2)), is_free(ring), free_lot(ring), closing(ring, (0, 1), 2), how_many_closed(ring), \
 closed_base(ring), least_closed(ring)]
 [True, False, (0, 1), (0, 1, 2), 1, [(0, 1, 2)], (0, 1, 2)]
+>>> from keytellers.tables import first_table, how_many, is_told, settle, values_of
+>>> [values_of(ring, (1, 2, 4)), first_table(ring, (3, 6, 5)), settle(ring, (1, 0, 0)), how_many(ring, 3, (3, 6, 5))]
+[(3, 6, 5), (0, 3, 5), ('lot', (0, 1, 2)), 8]
+>>> from keytellers.cores import core, is_road, road, table_back
+>>> row = book(3, [(0, 1), (1, 2)])
+>>> [core(ring), core(row), road(row), table_back(row, (5, 1), road(row)), is_road(row, ((1, 1),))]
+[(0, 1, 2), (), ((0, 0), (1, 1)), (4, 1, 0), False]
+>>> from keytellers.mixings import book_of, least_peeled, least_seed, mark_of, row_of, seeded
+>>> mix = (3, 7, ((1, 0), (2, 1)), (3, 2))
+>>> [row_of(mix, 4), mark_of(mix, 2, 4), book_of(mix, (4, 5, 6)), seeded(mix, 1), least_seed(mix, (4, 5, 6), 3)]
+[(1, 2), 0, (3, ((1, 2), (1, 2), (0,))), (3, 7, ((4, 1), (0, 2)), (3, 3)), ('seed', 2)]
+>>> from keytellers.room import bits_of, least_bits, share, ways
+>>> [bits_of(row, 8), share(row, 8), ways(5, 2), least_bits(8, 1, 0), least_bits(8, 1, 1)]
+[24, (2, 3), 10, 3, 2]
 """
 
 
@@ -25,7 +39,7 @@ class Examples(unittest.TestCase):
         printed = []
         results = doctest.DocTestRunner(verbose=False).run(test, out=printed.append)
         self.assertEqual(results.failed, 0, "".join(printed))
-        self.assertEqual(results.attempted, 7)
+        self.assertEqual(results.attempted, 17)
 
 
 if __name__ == "__main__":
