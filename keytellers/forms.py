@@ -46,6 +46,11 @@ def are_pairs(told, top, second_top):
     return isinstance(told, tuple) and all(is_pair(one, top, second_top) for one in told)
 
 
+def are_unlike(some):
+    """Whether no two of some integers are alike."""
+    return len(set(some)) == len(some)
+
+
 def check_number(told, least):
     """Raises InvalidNumber if it is no integer from least on."""
     if not is_integer(told, least):

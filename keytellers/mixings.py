@@ -2,7 +2,7 @@
 
 from keytellers.cores import core
 from keytellers.errors import InvalidMixing, InvalidValues
-from keytellers.forms import are_integers, are_pairs, check_number, is_integer, is_pair
+from keytellers.forms import are_integers, are_pairs, are_unlike, check_number, is_integer, is_pair
 from keytellers.lots import least_closed
 
 
@@ -92,5 +92,5 @@ def check_mixing(mixing):
 
 def check_numbers(numbers):
     """Raises InvalidValues if it is no list or tuple of unlike integers from 0 on."""
-    if not are_integers(numbers, 0) or len(set(numbers)) != len(numbers):
+    if not are_integers(numbers, 0) or not are_unlike(numbers):
         raise InvalidValues(numbers)

@@ -19,6 +19,11 @@ def row_words(book):
     return [row_word(row) for row in book[1]]
 
 
+def how_many_cells(word):
+    """How many places of a word have a 1."""
+    return f"{word:b}".count("1")
+
+
 def reduced(span, word, mark):
     """(word, mark) with sums of the span added as long as one is as wide: word 0 exactly if the span makes it."""
     while word.bit_length() in span:

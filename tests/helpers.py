@@ -107,6 +107,11 @@ def is_free_among(closed, lot):
     return not any(set(one) <= set(lot) for one in closed)
 
 
+def seats_by_trying(book, lot):
+    """All seats of a lot, as tuples compare, as promise [8] says them."""
+    return [told for told in itertools.product(*[book[1][key] for key in lot]) if len(set(told)) == len(told)]
+
+
 def some_books(draw, how_many, keys, cells, longest):
     """Books of up to so many keys and cells, rows of up to so many cells, as draw, a random.Random, has them."""
     found = []

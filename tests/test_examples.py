@@ -23,6 +23,18 @@ closed_base(ring), least_closed(ring)]
 >>> row = book(3, [(0, 1), (1, 2)])
 >>> [core(ring), core(row), road(row), table_back(row, (5, 1), road(row)), is_road(row, ((1, 1),))]
 [(0, 1, 2), (), ((0, 0), (1, 1)), (4, 1, 0), False]
+>>> from keytellers.seats import first_seats, is_seated, is_short, least_short, most_seated
+>>> full = book(2, [(0, 1), (0,), (1,)])
+>>> [first_seats(ring), most_seated(full), least_short(full), is_short(full, (1,)), is_seated(ring, (0, 1), (1, 2))]
+[(0, 1, 2), (0, 1), (0, 1, 2), False, True]
+>>> from keytellers.chains import all_in, behind, chain, is_chain, reached
+>>> [chain(full, (0, None, None), 1), behind(full, (0, None, None), ((1, 0), (0, 1))), chain(full, (1, 0, None), 2), \
+reached(full, (1, 0, None), 2), all_in(full)]
+[((1, 0), (0, 1)), (1, 0, None), None, (0, 1, 2), (1, 0, None)]
+>>> from keytellers.choosers import chooser, chosen, key_of, number_of
+>>> [chooser(row), [chosen(row, (0, 0, 0), key) for key in (0, 1)], number_of(row, (0, 0, 0), 1), \
+key_of(row, (0, 0, 0), 0)]
+[(0, 0, 0), [0, 1], 1, 0]
 >>> from keytellers.mixings import book_of, least_peeled, least_seed, mark_of, row_of, seeded
 >>> mix = (3, 7, ((1, 0), (2, 1)), (3, 2))
 >>> [row_of(mix, 4), mark_of(mix, 2, 4), book_of(mix, (4, 5, 6)), seeded(mix, 1), least_seed(mix, (4, 5, 6), 3)]
@@ -39,7 +51,7 @@ class Examples(unittest.TestCase):
         printed = []
         results = doctest.DocTestRunner(verbose=False).run(test, out=printed.append)
         self.assertEqual(results.failed, 0, "".join(printed))
-        self.assertEqual(results.attempted, 17)
+        self.assertEqual(results.attempted, 24)
 
 
 if __name__ == "__main__":
