@@ -106,7 +106,7 @@ def pairs_to_come(rows, placing):
     while found:
         many += 1
         taken = [key for key in taken if placing[key] not in to_come]
-        found = [placing[key] for key in taken if any([cell in to_come for cell in rows[key]])]
+        found = [placing[key] for key in taken if any([one in to_come for one in rows[key]])]
         for cell in found:
             to_come[cell] = many
     return to_come

@@ -21,7 +21,8 @@ def row_words(book):
 
 def how_many_cells(word):
     """How many places of a word have a 1."""
-    return f"{word:b}".count("1")
+    digits = f"{word:b}"
+    return digits.count("1")
 
 
 def reduced(span, word, mark):

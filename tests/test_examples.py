@@ -1,6 +1,7 @@
-"""The examples of the document, as it prints them."""
+"""The examples of the document, as it prints them, and those of README.md."""
 
 import doctest
+import os
 import unittest
 
 EXAMPLES = """
@@ -39,19 +40,35 @@ key_of(row, (0, 0, 0), 0)]
 >>> mix = (3, 7, ((1, 0), (2, 1)), (3, 2))
 >>> [row_of(mix, 4), mark_of(mix, 2, 4), book_of(mix, (4, 5, 6)), seeded(mix, 1), least_seed(mix, (4, 5, 6), 3)]
 [(1, 2), 0, (3, ((1, 2), (1, 2), (0,))), (3, 7, ((4, 1), (0, 2)), (3, 3)), ('seed', 2)]
+>>> from keytellers.changes import changed, fewest, is_enough
+>>> [fewest(row, (4, 1, 0), (5, 0)), is_enough(row, (4, 1, 0), (5, 0), (0,)), changed((1, 2), (1, 3))]
+[((2,), (4, 1, 1)), False, (1,)]
 >>> from keytellers.room import bits_of, least_bits, share, ways
 >>> [bits_of(row, 8), share(row, 8), ways(5, 2), least_bits(8, 1, 0), least_bits(8, 1, 1)]
 [24, (2, 3), 10, 3, 2]
+>>> from keytellers.texts import show_book, show_mixing, show_placing, show_road
+>>> [show_book(row), show_placing((0, None)), show_road(road(row)), show_mixing(mix)]
+['book 3\\n0 1\\n1 2', '0 *', '0-0 1-1', '3 7 : 1 0, 2 1 : 3 2']
 """
 
 
+README = os.path.join(os.path.dirname(os.path.dirname(os.path.abspath(__file__))), "README.md")
+
+
 class Examples(unittest.TestCase):
-    def test_examples(self):
-        test = doctest.DocTestParser().get_doctest(EXAMPLES, {}, "examples", None, 0)
+    def run_text(self, text, many):
+        test = doctest.DocTestParser().get_doctest(text, {}, "examples", None, 0)
         printed = []
         results = doctest.DocTestRunner(verbose=False).run(test, out=printed.append)
         self.assertEqual(results.failed, 0, "".join(printed))
-        self.assertEqual(results.attempted, 24)
+        self.assertEqual(results.attempted, many)
+
+    def test_examples(self):
+        self.run_text(EXAMPLES, 28)
+
+    def test_readme(self):
+        with open(README, encoding="utf-8") as file:
+            self.run_text(file.read().replace("```", ""), 16)
 
 
 if __name__ == "__main__":

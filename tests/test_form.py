@@ -24,7 +24,7 @@ compile copyright credits delattr dir eval exec exit gc globals help id importli
 vars sys typing enum dataclass namedtuple NamedTuple abstractmethod async""".split())
 VIEWS = {"range", "enumerate", "zip", "reversed"}
 TAKES_VIEWS = {"list", "tuple", "dict", "sorted", "sum", "any", "all", "enumerate", "zip", "min", "max", "len",
-               "reversed"}
+               "reversed", "combinations"}
 NAMES_OF_BUILTINS = {name for name in dir(builtins) if name[0] != "_"}
 STATEMENTS = (ast.FunctionDef, ast.ClassDef, ast.ImportFrom, ast.Assign)
 
@@ -40,6 +40,12 @@ def text_of(name):
 
 def is_docstring(node):
     return isinstance(node, ast.Expr) and isinstance(node.value, ast.Constant) and isinstance(node.value.value, str)
+
+
+def names_defined(tree):
+    """The functions, classes and values of a file."""
+    found = {node.name for node in tree.body if isinstance(node, (ast.FunctionDef, ast.ClassDef))}
+    return found | {one.id for node in tree.body if isinstance(node, ast.Assign) for one in node.targets}
 
 
 class Form(unittest.TestCase):
@@ -75,8 +81,7 @@ class Form(unittest.TestCase):
 
     def test_imports(self):
         self.assertEqual(list(self.nodes(ast.Import)), [])
-        defined = {name[:-3]: {node.name for node in tree.body if isinstance(node, (ast.FunctionDef, ast.ClassDef))}
-                   for name, tree in self.trees()}
+        defined = {name[:-3]: names_defined(tree) for name, tree in self.trees()}
         for name, node in self.nodes(ast.ImportFrom):
             first, _, file = node.module.partition(".")
             known = defined[file] if first == "keytellers" else LIBRARY[node.module]
