@@ -55,7 +55,7 @@ def read_filter(text):
     w = number_behind("filter", lines[0])
     if w is None:
         raise Unreadable(1)
-    mixing = parts_of_mixing(lines[1]) if len(lines) > 1 else None
+    mixing = mixing_of(lines[1]) if len(lines) > 1 else None
     if mixing is None:
         raise Unreadable(2)
     table = words_of(lines[2]) if len(lines) > 2 else None
@@ -114,12 +114,6 @@ def road_of(line):
 
 def mixing_of(line):
     """The mixing that a line shows, or None."""
-    told = parts_of_mixing(line)
-    return told if is_mixing(told) else None
-
-
-def parts_of_mixing(line):
-    """What a line shows that looks like a mixing, even if it is none, or None."""
     parts = line.split(" : ")
     if len(parts) != 3:
         return None
@@ -128,7 +122,8 @@ def parts_of_mixing(line):
     mark = pair_of(parts[2], " ")
     if sizes is None or pairs is None or mark is None:
         return None
-    return (*sizes, pairs, mark)
+    told = (*sizes, pairs, mark)
+    return told if is_mixing(told) else None
 
 
 def pairs_of(text, between, within):

@@ -90,6 +90,8 @@ def slow_filter(text):
     for n, kind in enumerate(("filter", "mixing", "words")):
         if n >= len(lines) or not stands(lines[n], kind):
             return ("wrong", n + 1)
+        if kind == "mixing" and not is_mixing(mixing_by_signs(lines[n])):
+            return ("wrong", n + 1)
     if len(lines) > 3:
         return ("wrong", 4)
     told = (mixing_by_signs(lines[1]), integers(lines[0])[0], integers(lines[2]))
@@ -305,18 +307,35 @@ class Named(Case):
             self.unreadable(read_filter, 3, "\n".join([first, second, bad]), "\n".join([first, second, bad, ""]))
         # Lines that lack.
         self.unreadable(read_filter, 2, first, "filter 0")
-        self.unreadable(read_filter, 3, "\n".join([first, second]), "filter 0\n0 1 : 0 0 : 0 0")
+        self.unreadable(read_filter, 3, "\n".join([first, second]), "filter 0\n1 2 : 0 0 : 0 0")
         # Lines that are too many, be the whole a filter or none.
         for more in ("", "0", "x", third):
             self.unreadable(read_filter, 4, "\n".join([first, second, third, more]),
                             "\n".join([first, second, "0", more]), "\n".join([first, second, third, more, more]))
-        # No filters: words too wide, too many, too few or none, no mixing, no bits.
+        # No filters, of lines that can stand: words too wide, too many, too few or none, no bits.
         for w, words in (
             (2, "0 7 5"), (1, "0 2 0"), (3, "0 7"), (3, "0"), (3, "0 7 5 0"), (3, "-"), (3, "0 8 0"), (0, "0 0 0"),
         ):
             self.unreadable(read_filter, 0, f"filter {w}\n{second}\n{words}")
-        for bad in ("0 7 : 1 0 : 3 2", "3 1 : 0 0 : 0 0", "3 7 : 7 0 : 3 2", "3 7 : 1 7 : 3 2", "3 7 : 1 0 : 3 7"):
-            self.unreadable(read_filter, 0, "\n".join([first, bad, third]))
+
+    def test_filters_without_a_mixing(self):
+        # The second line looks like a mixing but shows none, whatever the other lines come to.
+        first, second, third = show_filter(MESH).split("\n")
+        for bad in (
+            "0 7 : 1 0 : 3 2", "0 7 : 0 0 : 0 0", "3 1 : 0 0 : 0 0", "3 0 : 0 0 : 0 0", "0 0 : 0 0 : 0 0",
+            "3 7 : 7 0 : 3 2", "3 7 : 1 7 : 3 2", "3 7 : 1 0, 2 7 : 3 2", "3 7 : 1 0, 7 1 : 3 2", "3 7 : 1 0 : 7 2",
+            "3 7 : 1 0 : 3 7",
+        ):
+            self.unreadable(read_mixing, 1, bad)
+            for head in (first, "filter 0", "filter 1"):
+                self.unreadable(read_filter, 2, f"{head}\n{bad}", *[
+                    f"{head}\n{bad}\n{rest}" for rest in (third, "-", "0", "01", "", "x", "0\n0", "x\ny", "0\n")])
+            self.unreadable(read_filter, 1, f"filter\n{bad}\n{third}", f"filter 03\n{bad}")
+        self.unreadable(read_filter, 2, "filter 37\n2 1 : 0 0 : 0 0\n01", "filter 3\n0 7 : 1 0 : 0 0\n-")
+        # The least numbers and the greatest ones with which it shows one.
+        self.answers(((1, 2, ((1, 1),), (1, 1)), 1, (1,)), read_filter, text="filter 1\n1 2 : 1 1 : 1 1\n1")
+        self.answers(((3, 7, ((6, 6), (0, 0)), (6, 6)), 3, (0, 7, 5)), read_filter,
+                     text="filter 3\n3 7 : 6 6, 0 0 : 6 6\n0 7 5")
 
 
 if __name__ == "__main__":
